@@ -1,7 +1,8 @@
 """The house: its files, the runs that are told of it, and the calls on it."""
 
+from skipruns.plan import make_plan
 from skipruns.runs import Run, answer_now, are_same, contradiction, counted
-from skipruns.runs import is_made_right, is_trace_right, made_files, would_be_so
+from skipruns.runs import is_made_right, is_trace_right, made_files, wrong_places
 
 BEGINS = 0
 PUT = 1
@@ -9,6 +10,11 @@ DROP = 2
 TELL = 3
 LOOK = 4
 BRING = 5
+NEAREST = 6
+PLAN = 7
+DISTRUST = 8
+HELD = 9
+FILES = 10
 
 MOST_JOBS = 6
 MOST_SOURCES = 30
@@ -16,14 +22,17 @@ MOST_TOLD = 30
 
 WRONG_JOBS = -1
 NO_SUCH_JOB = -2
+NO_SUCH_AREA = -2
 WRONG_JOB_OR_END = -2
 NOT_TRUSTED = -3
 NO_SUCH_SOURCE = -4
 NUMBER_TAKEN = -4
+DISTRUSTED_ALREADY = -4
 WRONG_MADE = -5
 WRONG_TRACE = -6
 FULL = -7
 NOT_FOUND = -8
+NONE_HELD = -8
 
 IS_HELD = 0
 IS_KNOWN = 1
@@ -40,7 +49,7 @@ class House:
 
     def make_new(self, jobs):
         self.jobs = jobs
-        self.areas = [{} for area in range(jobs + 1)]
+        self.areas = [{}] + empty_areas(jobs)
         self.told_runs = []
         self.held_runs = []
         self.distrusted = {}
@@ -108,12 +117,51 @@ class House:
         self.areas[job + 1] = made_files(run.made)
         return found_answer(run)
 
+    def nearest(self, job):
+        if job >= self.jobs:
+            return [NO_SUCH_JOB]
+        runs = self.held_of(job)
+        if len(runs) == 0:
+            return [NONE_HELD]
+        # Of several that are as near, min gives the first.
+        run = min(runs, key=lambda each: len(wrong_places(self.areas, each)))
+        places = wrong_places(self.areas, run)
+        return [len(places), run.number] + places
+
+    def plan(self):
+        return make_plan(self.jobs, self.areas[0], self.held_runs)
+
+    def distrust(self, machine):
+        if machine in self.distrusted:
+            return [DISTRUSTED_ALREADY]
+        self.distrusted[machine] = True
+        self.told_runs = [run for run in self.told_runs if run.machine != machine]
+        # Anew from all that's left: what a forgotten run kept from being held may be held now.
+        self.held_runs = held_among(self.told_runs)
+        self.areas = [self.areas[0]] + empty_areas(self.jobs)
+        return counted(self.held_numbers())
+
+    def held(self):
+        return [len(self.told_runs)] + self.held_numbers()
+
+    def files(self, area):
+        if area > self.jobs:
+            return [NO_SUCH_AREA]
+        contents = self.areas[area]
+        given = [len(contents)]
+        for file in sorted(contents):
+            given.extend([file, contents[file]])
+        return given
+
+    def held_numbers(self):
+        return [run.number for run in self.held_runs]
+
     def held_of(self, job):
         return [run for run in self.held_runs if run.job == job]
 
     def found_run(self, job):
         for run in self.held_of(job):
-            if would_be_so(self.areas, run):
+            if len(wrong_places(self.areas, run)) == 0:
                 return run
         return None
 
@@ -133,6 +181,10 @@ class House:
             place += 1
 
 
+def empty_areas(jobs):
+    return [{} for job in range(jobs)]
+
+
 def found_answer(run):
     return [1, run.number, run.ended] + run.made
 
@@ -145,6 +197,14 @@ def judge(held_runs, run):
         if place is not None:
             return [CONTRADICTS, held.number, place]
     return [IS_HELD]
+
+
+def held_among(told_runs):
+    held_runs = []
+    for run in told_runs:
+        if judge(held_runs, run)[0] == IS_HELD:
+            held_runs.append(run)
+    return held_runs
 
 
 def answer_call(house, call, numbers, lists):
@@ -160,6 +220,16 @@ def answer_call(house, call, numbers, lists):
         return house.look(numbers[0])
     if call == BRING:
         return house.bring(numbers[0])
+    if call == NEAREST:
+        return house.nearest(numbers[0])
+    if call == PLAN:
+        return house.plan()
+    if call == DISTRUST:
+        return house.distrust(numbers[0])
+    if call == HELD:
+        return house.held()
+    if call == FILES:
+        return house.files(numbers[0])
     raise NoSuchCall(f"no such call: {call}")
 
 

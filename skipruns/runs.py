@@ -48,8 +48,9 @@ def answer_now(areas, question):
     return counted([])
 
 
-def would_be_so(areas, run):
-    return all([answer_now(areas, step.question) == step.answer for step in run.trace])
+# The places, from 0, of the answers that wouldn't be so now.
+def wrong_places(areas, run):
+    return [place for place, step in enumerate(run.trace) if answer_now(areas, step.question) != step.answer]
 
 
 def is_made_right(made):

@@ -32,6 +32,34 @@ def bring(job):
     return [5, 1, job, 0]
 
 
+def nearest(job):
+    return [6, 1, job, 0]
+
+
+def plan():
+    return [7, 0, 0]
+
+
+def distrust(machine):
+    return [8, 1, machine, 0]
+
+
+def held():
+    return [9, 0, 0]
+
+
+def files(area):
+    return [10, 1, area, 0]
+
+
+def state(jobs):
+    """Calls that change nothing and tell all that can be seen of a house with so many jobs."""
+    seen = [held(), plan()] + [files(area) for area in range(jobs + 2)]
+    for job in range(jobs):
+        seen += [look(job), nearest(job)]
+    return seen
+
+
 def gone(area, file):
     return [0, area, file]
 

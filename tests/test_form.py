@@ -108,6 +108,15 @@ class Form(unittest.TestCase):
                 self.assertIsNone(drawn.asname)
                 self.assertIn(drawn.name, names)
 
+    def test_no_two_files_draw_from_one_another(self):
+        draws = {path.stem: {node.module.split(".")[1] for node in tree.body if isinstance(node, ast.ImportFrom)}
+                 for path, tree in trees()}
+        while draws:
+            done = [name for name, drawn in draws.items() if not drawn & set(draws)]
+            self.assertNotEqual(done, [], draws)
+            for name in done:
+                draws.pop(name)
+
     def test_the_top_of_a_file(self):
         for path, tree in trees():
             self.assertIsNotNone(ast.get_docstring(tree), path.name)

@@ -2,8 +2,7 @@
 
 import unittest
 
-from lines import TOP, ask, begins, bring, drop, gone, last, look, put, tell, there, which
-from skipruns.house import House
+from lines import TOP, ask, begins, bring, distrust, drop, gone, last, look, put, tell, there, which
 
 THIRTY = [put(file, 100 + file) for file in range(30)]
 
@@ -51,12 +50,8 @@ class Begins(unittest.TestCase):
         self.assertEqual(given[-1], [1, 2, 0])
 
     def test_all_machines_are_trusted_again(self):
-        house = House()
-        house.distrusted[4] = True
-        self.assertEqual(house.begins(9), [-1])
-        self.assertIn(4, house.distrusted)
-        self.assertEqual(house.begins(1), [0])
-        self.assertEqual(house.distrusted, {})
+        given = ask(distrust(4), distrust(5), begins(9), tell(1, machine=4), begins(1), tell(1, machine=4), distrust(5))
+        self.assertEqual(given[2:], [[-1], [-3], [0], [0], [1, 1]])
 
     def test_fewer_jobs_than_before(self):
         self.assertEqual(ask(begins(6), begins(2), look(1), look(2)), [[0], [0], [0, 0], [-2]])

@@ -2,9 +2,7 @@
 
 import unittest
 
-from lines import TOP, ask, begins, gone, last, look, put, tell, there
-from skipruns.house import House
-from skipruns.runs import Run
+from lines import TOP, ask, begins, bring, distrust, gone, last, look, put, state, tell, there
 
 WRONG_MADE = (1,)
 WRONG_TRACE = [gone(0, 1), gone(0, 1)]
@@ -25,27 +23,8 @@ class JobAndEnd(unittest.TestCase):
 
 
 class Trust(unittest.TestCase):
-    def house(self):
-        house = House()
-        house.distrusted[4] = True
-        return house
-
     def test_a_machine_that_is_not_trusted_any_more(self):
-        house = self.house()
-        self.assertEqual(house.tell(Run([1, 0, 4, 0], [], [])), [-3])
-        self.assertEqual(house.tell(Run([1, 0, 5, 0], [], [])), [0])
-
-    def test_a_job_or_an_end_that_is_wrong_is_told_first(self):
-        house = self.house()
-        self.assertEqual(house.tell(Run([1, 1, 4, 0], [], [])), [-2])
-        self.assertEqual(house.tell(Run([1, 0, 4, 2], [], [])), [-2])
-
-    def test_it_is_told_ahead_of_all_else(self):
-        house = self.house()
-        house.tell(Run([1, 0, 5, 0], [], []))
-        self.assertEqual(house.tell(Run([1, 0, 4, 0], [], [])), [-3])
-        self.assertEqual(house.tell(Run([2, 0, 4, 0], [1], [])), [-3])
-        self.assertEqual(house.tell(Run([2, 0, 4, 0], [], WRONG_TRACE)), [-3])
+        self.assertEqual(ask(distrust(4), tell(1, machine=4), tell(1, machine=5)), [[0], [-3], [0]])
 
     def test_any_number_may_be_a_machine(self):
         self.assertEqual(ask(begins(2), tell(1, machine=TOP), tell(2, job=1, machine=0)), [[0], [0], [0]])
@@ -134,17 +113,23 @@ class OfSeveralTheFirst(unittest.TestCase):
 
 class AllIsAsItWas(unittest.TestCase):
     def test_after_each_refusal(self):
-        before = [begins(2), put(1, 10), tell(1, asked=[there(0, 1, 10)], made=(5, 50))]
-        behind = [look(0), look(1), tell(2, asked=[there(0, 1, 10)], made=(5, 50)), tell(3, ended=1)]
-        plain = ask(*before, *behind)[3:]
-        self.assertEqual(plain, [[1, 1, 0, 5, 50], [0, 0], [1], [2, 1, 0]])
+        before = [begins(2), put(1, 10), distrust(4), tell(1, asked=[there(0, 1, 10)], made=(5, 50)), bring(0)]
+        behind = [*state(2), tell(2, asked=[there(0, 1, 10)], made=(5, 50)), tell(3, ended=1), *state(2)]
+        plain = ask(*before, *behind)[5:]
+        self.assertEqual(plain[0], [1, 1])
         for refusal, call in (
-                (-2, tell(2, job=2)), (-2, tell(2, ended=2)), (-4, tell(1, job=1)), (-5, tell(2, job=1, made=WRONG_MADE)),
-                (-6, tell(2, job=1, asked=WRONG_TRACE))):
+                (-2, tell(2, job=2)), (-2, tell(2, ended=2)), (-3, tell(2, job=1, machine=4)), (-4, tell(1, job=1)),
+                (-5, tell(2, job=1, made=WRONG_MADE)), (-6, tell(2, job=1, asked=WRONG_TRACE))):
             with self.subTest(call=call):
                 given = ask(*before, call, *behind)
-                self.assertEqual(given[3], [refusal])
-                self.assertEqual(given[4:], plain)
+                self.assertEqual(given[5], [refusal])
+                self.assertEqual(given[6:], plain)
+
+    def test_when_thirty_are_told(self):
+        before = [begins(2), *THIRTY, bring(0)]
+        plain = ask(*before, *state(2))[32:]
+        self.assertEqual(plain[0], [30, 0])
+        self.assertEqual(ask(*before, tell(30, job=1), *state(2))[32:], [[-7], *plain])
 
 
 if __name__ == "__main__":
